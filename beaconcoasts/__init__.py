@@ -1,0 +1,1 @@
+"""A chart of lights and coasts, and what is seen from where."""
