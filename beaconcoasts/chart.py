@@ -1,9 +1,11 @@
 """The chart, and the calls on it."""
 
+from beaconcoasts.fields import is_field, is_track, read_pairs
 from beaconcoasts.lights import Light
-from beaconcoasts.places import is_place
+from beaconcoasts.places import by_rows, is_place
 from beaconcoasts.rhythms import is_white_and_dark, read_rhythm, write_rhythm
-from beaconcoasts.sectors import NOTHING, read_sectors
+from beaconcoasts.sectors import LAST_COLOUR, NOTHING, read_sectors
+from beaconcoasts.walks import places_over, walks_over
 
 LONGEST_REACH = 20000
 MOST_BYTES = 1024
@@ -15,9 +17,13 @@ LIGHT_CALL = 0
 COAST_CALL = 1
 SEEN_CALL = 2
 AT_CALL = 3
+RHYTHM_CALL = 4
+WHERE_CALL = 5
+TRACK_CALL = 6
+TELL_CALL = 7
 # of each call, by its number: how many whole numbers it has, and how many lists behind them
-NUMBERS_OF_CALL = (3, 4, 2, 3, 3)
-LISTS_OF_CALL = (2, 0, 0, 0, 0)
+NUMBERS_OF_CALL = (3, 4, 2, 3, 3, 4, 5, 4, 0)
+LISTS_OF_CALL = (2, 0, 0, 0, 0, 1, 0, 1, 0)
 
 
 class Chart:
@@ -41,7 +47,7 @@ class Chart:
             return [-8]
         if len(self.lights) == MOST_LIGHTS:
             return [-5]
-        self.lights.append(Light((x, y), reach, phases, sectors))
+        self.lights.append(Light((x, y), reach, phases, sectors, self.coasts))
         return [len(self.lights) - 1]
 
     def coast(self, x, y, u, v):
@@ -50,21 +56,24 @@ class Chart:
             return [-1]
         if len(self.coasts) == MOST_COASTS:
             return [-5]
-        self.coasts.append(((x, y), (u, v)))
+        coast = ((x, y), (u, v))
+        self.coasts.append(coast)
+        for light in self.lights:
+            light.hide_behind(coast)
         return [len(self.coasts)]
 
     def seen(self, x, y):
         """Which lights are seen from (x, y), whatever the time."""
         if not is_place((x, y)):
             return [-1]
-        return tell_seen(self.lights_seen((x, y)))
+        return tell_rows(self.lights_seen((x, y)))
 
     def at(self, moment, x, y):
         """Which lights are seen from (x, y) at the moment."""
         if moment > LAST_MOMENT or not is_place((x, y)):
             return [-1]
         found = self.lights_seen((x, y))
-        return tell_seen([pair for pair in found if self.lights[pair[0]].is_on(moment)])
+        return tell_rows([pair for pair in found if self.lights[pair[0]].is_on(moment)])
 
     def rhythm(self, number, x, y):
         """The text of a light's rhythm, as it's seen from (x, y)."""
@@ -73,29 +82,108 @@ class Chart:
         if number >= len(self.lights):
             return [-4]
         light = self.lights[number]
-        colour = light.colour_seen((x, y), self.coasts)
+        colour = light.colour_seen((x, y))
         if colour == NOTHING:
             return [-3]
         text = write_rhythm(light.phases, colour)
         return [len(text)] + text
 
+    def where(self, x, y, u, v, told):
+        """From how many places of the field all that's told is so, and the first and the last of them."""
+        walks, spots, refusal = self.look_over((x, y), (u, v), told)
+        if refusal is not None:
+            return [refusal]
+        places = places_over(walks)
+        left = sorted([places[spot] for spot in spots], key=by_rows)
+        if len(left) == 0:
+            return [0]
+        return [len(left), left[0][0], left[0][1], left[-1][0], left[-1][1]]
+
+    def track(self, x, y, u, v, n):
+        """What changes on the way from (x, y) by n steps of (u, v) each."""
+        if not is_track((x, y), (u, v), n):
+            return [-1]
+        return tell_rows(self.changes_on(((x, y), (u, v), n + 1)))
+
+    def tell(self, x, y, u, v, told):
+        """Of the places that where counts: the light to look for next, and how many have each colour of it."""
+        walks, spots, refusal = self.look_over((x, y), (u, v), told)
+        if refusal is not None:
+            return [refusal]
+        if len(spots) == 0 or len(self.lights) == 0:
+            return [-3]
+        counted = [count_colours(light.colours_over(walks), spots) for light in self.lights]
+        best = number_of_least_greatest(counted)
+        return [best] + counted[best]
+
+    def begin_anew(self):
+        """Takes all lights and coasts off the chart."""
+        self.lights = []
+        self.coasts = []
+        return [0]
+
     def lights_seen(self, place):
         """The lights that are seen from the place: (number, colour) each, by numbers."""
         found = []
         for number, light in enumerate(self.lights):
-            colour = light.colour_seen(place, self.coasts)
+            colour = light.colour_seen(place)
             if colour != NOTHING:
                 found.append((number, colour))
         return found
 
+    def look_over(self, corner, opposite, told):
+        """The walks over a field, which of their places are left, and None; or none of them, and the refusal."""
+        pairs = read_pairs(told)
+        if not is_field(corner, opposite) or pairs is None:
+            return [], [], -1
+        if any([number >= len(self.lights) for number, colour in pairs]):
+            return [], [], -4
+        walks = walks_over(corner, opposite)
+        return walks, self.spots_left(walks, pairs), None
 
-def tell_seen(found):
-    """How many lights were found, and of each its number and colour."""
-    told = [len(found)]
-    for number, colour in found:
-        told.append(number)
-        told.append(colour)
+    def spots_left(self, walks, pairs):
+        """The places from which all the pairs are so: of each, how many stand before it on the walks."""
+        spots = list(range(len(places_over(walks))))
+        for number, colour in pairs:
+            colours = self.lights[number].colours_over(walks)
+            spots = [spot for spot in spots if colours[spot] == colour]
+        return spots
+
+    def changes_on(self, walk):
+        """The changes (step, light, colour) along the walk, by steps, then lights."""
+        seen_along = [light.colours_on(walk) for light in self.lights]
+        changes = []
+        for step in range(walk[2]):
+            for number, colours in enumerate(seen_along):
+                before = colours[step - 1] if step > 0 else NOTHING
+                if colours[step] != before:
+                    changes.append((step, number, colours[step]))
+        return changes
+
+
+def tell_rows(rows):
+    """How many rows there are, and of each its numbers."""
+    told = [len(rows)]
+    for row in rows:
+        told.extend(row)
     return told
+
+
+def count_colours(colours, spots):
+    """How many of the spots have each colour, from 0 on."""
+    counts = [0] * (LAST_COLOUR + 1)
+    for spot in spots:
+        counts[colours[spot]] += 1
+    return counts
+
+
+def number_of_least_greatest(counted):
+    """The first of the rows, by number, whose greatest number is the least."""
+    best = 0
+    for number, counts in enumerate(counted):
+        if max(counts) < max(counted[best]):
+            best = number
+    return best
 
 
 def answer_call(chart, call, numbers, lists):
@@ -108,8 +196,16 @@ def answer_call(chart, call, numbers, lists):
         return chart.seen(numbers[0], numbers[1])
     if call == AT_CALL:
         return chart.at(numbers[0], numbers[1], numbers[2])
-    # the one that is left, of those with a row in the tables above
-    return chart.rhythm(numbers[0], numbers[1], numbers[2])
+    if call == RHYTHM_CALL:
+        return chart.rhythm(numbers[0], numbers[1], numbers[2])
+    if call == WHERE_CALL:
+        return chart.where(numbers[0], numbers[1], numbers[2], numbers[3], lists[0])
+    if call == TRACK_CALL:
+        return chart.track(numbers[0], numbers[1], numbers[2], numbers[3], numbers[4])
+    if call == TELL_CALL:
+        return chart.tell(numbers[0], numbers[1], numbers[2], numbers[3], lists[0])
+    # clear, the one that is left of those with a place in the tables above
+    return chart.begin_anew()
 
 
 def read_lists(calls, count, start):

@@ -9,6 +9,11 @@ def is_place(place):
     return -FARTHEST <= x <= FARTHEST and -FARTHEST <= y <= FARTHEST
 
 
+def by_rows(place):
+    """By this places are sorted by y, then x."""
+    return (place[1], place[0])
+
+
 def way_between(start, end):
     """The direction from one place to another, as long as they are apart."""
     return (end[0] - start[0], end[1] - start[1])

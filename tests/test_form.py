@@ -30,19 +30,32 @@ VALUES = (ast.BinOp, ast.UnaryOp, ast.BoolOp, ast.Compare, ast.IfExp, ast.Call, 
           ast.Constant, ast.Name, ast.List, ast.Tuple, ast.Dict, ast.Set, ast.ListComp, ast.JoinedStr,
           ast.FormattedValue, ast.Lambda)
 PLAIN = (int, str, bool, type(None))
+ESCAPE = re.compile(r"(?<!\\)(?:\\\\)*\\[^nt\\'\"]")
+KEYWORDS = {"sorted": {"key", "reverse"}, "min": {"key", "default"}, "max": {"key", "default"}, "sum": {"start"},
+            "enumerate": {"start"}, "zip": {"strict"}}
+KEYS = set("len int str abs sum min max tuple".split())
+WALKED = {"zip", "enumerate", "reversed", "range"}
+VIEWS = {"items", "keys", "values"}
+WALKERS = set("list tuple dict sorted sum any all enumerate zip min max".split())
+READERS = set("len list tuple dict sorted sum min max any all enumerate zip reversed".split())
+NEVER_TAKEN = set("""Exception TypeError ArithmeticError OverflowError RuntimeError NotImplementedError
+    AttributeError""".split())
 
 
 class Form:
     """The faults of one file, each a rule and a line."""
 
-    def __init__(self, source, own_methods=()):
+    def __init__(self, source, own_methods=(), classes=(), tables=()):
         self.tree = ast.parse(source)
+        self.parents = {inner: node for node in ast.walk(self.tree) for inner in ast.iter_child_nodes(node)}
         self.source = source
         self.own_methods = set(own_methods)
         self.found = []
         self.imported = {alias.name for node in self.tree.body if isinstance(node, ast.ImportFrom)
                          for alias in node.names}
         self.classes = {node.name for node in self.tree.body if isinstance(node, ast.ClassDef)}
+        self.package_classes = self.classes | set(classes)
+        self.tables = tables_of(self.tree) | set(tables)
 
     def fault(self, rule, node):
         self.found.append((rule, getattr(node, "lineno", node if isinstance(node, int) else 0)))
@@ -69,6 +82,8 @@ class Form:
                 self.fault("L14", number)
             if WORDS.search(row):
                 self.fault("L17", number)
+            if ESCAPE.search(row):
+                self.fault("L27", number)
 
     def check_top(self):
         if ast.get_docstring(self.tree) is None:
@@ -116,6 +131,8 @@ class Form:
             self.fault("L10", node)
         if node.decorator_list:
             self.fault("L4", node)
+        if node.returns:
+            self.fault("L21", node)
         self.check_returns(node)
 
     def check_returns(self, node):
@@ -144,6 +161,9 @@ class Form:
             self.fault("L15", node)
         if node.decorator_list or node.keywords or len(node.bases) > 1:
             self.fault("L5", node)
+        methods = [inner.name for inner in node.body if isinstance(inner, ast.FunctionDef)]
+        if len(methods) != len(set(methods)):
+            self.fault("L18", node)
         for inner in node.body:
             text = isinstance(inner, ast.Expr) and isinstance(inner.value, ast.Constant)
             if not text and not isinstance(inner, (ast.FunctionDef, ast.Pass)):
@@ -175,6 +195,71 @@ class Form:
         if node.finalbody or any(handler.type is None for handler in node.handlers):
             self.fault("L6", node)
 
+    def check_ExceptHandler(self, node):
+        if any(isinstance(inner, ast.Name) and inner.id in NEVER_TAKEN for inner in ast.walk(node.type or ast.Pass())):
+            self.fault("L19", node)
+
+    def is_called(self, node):
+        parent = self.parents[node]
+        return isinstance(parent, ast.Call) and parent.func is node
+
+    def is_given_to(self, node, names):
+        """If it's the first thing that one of these functions is called with."""
+        parent = self.parents[node]
+        return isinstance(parent, ast.Call) and isinstance(parent.func, ast.Name) and parent.func.id in names \
+            and parent.args[:1] == [node]
+
+    def is_walked(self, node):
+        parent = self.parents[node]
+        return isinstance(parent, (ast.For, ast.comprehension)) and parent.iter is node
+
+    def is_class_place(self, node):
+        """If a class may stand there: behind except or raise, as a base, by isinstance."""
+        parent = self.parents[node]
+        if isinstance(parent, ast.Tuple):
+            parent = self.parents[parent]
+        by_isinstance = isinstance(parent, ast.Call) and ast.unparse(parent.func) == "isinstance"
+        return isinstance(parent, (ast.ExceptHandler, ast.Raise, ast.ClassDef)) or by_isinstance
+
+    def check_use(self, node):
+        """Of a name that is read: classes, tables and Python's own names stand just where they may."""
+        parent = self.parents[node]
+        if node.id in self.package_classes and not self.is_called(node) and not self.is_class_place(node):
+            self.fault("L18", node)
+        as_key = isinstance(parent, ast.keyword) and parent.arg == "key" and node.id in KEYS
+        if node.id in ALLOWED and not self.is_called(node) and not self.is_class_place(node) and not as_key:
+            self.fault("L22", node)
+        indexed = isinstance(parent, ast.Subscript) and parent.value is node and isinstance(parent.ctx, ast.Load)
+        asked = isinstance(parent, ast.Attribute) and parent.attr in ("get", "index", "count")
+        if node.id in self.tables and not (indexed or asked or isinstance(parent, ast.Compare) or self.is_walked(node)
+                                           or self.is_given_to(node, READERS)):
+            self.fault("L15", node)
+
+    def check_walk(self, node, name):
+        """Of what is only to be walked on the spot."""
+        parent = self.parents[node]
+        joined = isinstance(parent, ast.Call) and isinstance(parent.func, ast.Attribute) and parent.func.attr == "join"
+        alone = not self.is_given_to(node, ("min", "max")) or len(parent.args) == 1 and not parent.keywords
+        if not (self.is_walked(node) or joined or self.is_given_to(node, WALKERS) and alone):
+            self.fault("L23", node)
+
+    def check_set(self, node):
+        parent = self.parents[node]
+        compared = isinstance(parent, (ast.Compare, ast.BinOp)) and self.parents.get(parent)
+        if not compared and not (self.is_given_to(node, ("sorted", "len")) and not parent.keywords):
+            self.fault("L24", node)
+
+    def check_Set(self, node):
+        parent = self.parents[node]
+        if not isinstance(parent, ast.Compare) or not isinstance(parent.ops[0], (ast.In, ast.NotIn)):
+            self.fault("L13", node)
+
+    def check_Lambda(self, node):
+        for other in ast.walk(self.tree):
+            if isinstance(other, ast.Lambda) and other is not node and other.lineno == node.lineno \
+                    and ast.unparse(other.args) == ast.unparse(node.args):
+                self.fault("L13", node)
+
     def check_Name(self, node):
         if isinstance(node.ctx, ast.Store):
             self.check_bound(node.id, node)
@@ -182,6 +267,7 @@ class Form:
             self.fault("L8", node)
         else:
             self.check_name(node.id, node)
+            self.check_use(node)
 
     def check_Attribute(self, node):
         self.check_name(node.attr, node)
@@ -191,8 +277,15 @@ class Form:
     def check_Call(self, node):
         if any(isinstance(row, ast.Starred) for row in node.args) or any(row.arg is None for row in node.keywords):
             self.fault("L7", node)
-        if isinstance(node.func, ast.Attribute) and node.func.attr not in METHODS | self.own_methods:
+        name = node.func.attr if isinstance(node.func, ast.Attribute) else getattr(node.func, "id", "")
+        if isinstance(node.func, ast.Attribute) and name not in METHODS | self.own_methods:
             self.fault("L25", node)
+        if (name in ALLOWED | METHODS) and {row.arg for row in node.keywords} - KEYWORDS.get(name, set()):
+            self.fault("L22", node)
+        if name in (VIEWS if isinstance(node.func, ast.Attribute) else WALKED):
+            self.check_walk(node, name)
+        if name in ("set", "frozenset"):
+            self.check_set(node)
 
     def check_Compare(self, node):
         for sign, right in zip(node.ops, node.comparators):
@@ -223,6 +316,12 @@ class Form:
             self.fault("L7", node)
 
 
+def tables_of(tree):
+    """The names of the lists, dicts and tuples of a file's top."""
+    return {node.targets[0].id for node in tree.body if isinstance(node, ast.Assign)
+            and isinstance(node.targets[0], ast.Name) and isinstance(node.value, (ast.List, ast.Dict, ast.Tuple))}
+
+
 def sources():
     return {path.stem: path.read_text(encoding="utf-8") for path in sorted(PACKAGE.glob("*.py"))}
 
@@ -247,6 +346,9 @@ class Package(unittest.TestCase):
         self.sources = sources()
         self.trees = {name: ast.parse(source) for name, source in self.sources.items()}
         self.methods, self.stored = class_members(self.trees.values())
+        self.classes = {node.name for tree in self.trees.values() for node in tree.body
+                        if isinstance(node, ast.ClassDef)}
+        self.tables = {name for tree in self.trees.values() for name in tables_of(tree)}
 
     def test_nothing_but_plain_files(self):
         names = [path.name for path in PACKAGE.iterdir() if path.name != "__pycache__"]
@@ -258,7 +360,7 @@ class Package(unittest.TestCase):
 
     def test_each_file(self):
         for name, source in self.sources.items():
-            self.assertEqual(Form(source, self.methods).faults(), [], name)
+            self.assertEqual(Form(source, self.methods, self.classes, self.tables).faults(), [], name)
 
     def test_methods_and_values_have_names_of_their_own(self):
         self.assertEqual(self.methods & self.stored, set())
@@ -272,6 +374,10 @@ class Package(unittest.TestCase):
                 if isinstance(node, ast.ImportFrom):
                     drawn = {alias.name for alias in node.names}
                     self.assertLessEqual(drawn, top_names(self.trees[node.module.split(".")[1]]), name)
+
+    def test_the_package_itself_binds_no_files_name(self):
+        self.assertEqual(top_names(self.trees["__init__"]) & set(self.trees), set())
+        self.assertEqual([node for node in self.trees["__init__"].body if isinstance(node, ast.ImportFrom)], [])
 
     def test_no_two_files_draw_from_one_another(self):
         draws = {name: {node.module.split(".")[1] for node in tree.body if isinstance(node, ast.ImportFrom)}
@@ -294,6 +400,13 @@ class Checker(unittest.TestCase):
     def test_what_is_in_form(self):
         source = '"""A file."""\n\nMOST = (1, -2)\n\n\ndef first(rows):\n    """The first."""\n    return rows[0]\n'
         self.assertEqual(Form(source).faults(), [])
+        for row in ("def f(a):\n    return sorted(a, key=lambda b: b)", "def f(a):\n    return max(a, key=len)",
+                    "X = (1, 2)\n\n\ndef f(a):\n    return X[a]", "X = [1]\n\n\ndef f(a):\n    return a in X",
+                    "X = [1]\n\n\ndef f():\n    return list(X)", "def f():\n    return '\\n\\\\r\\''",
+                    "def f(a):\n    return [b for b, c in zip(a, a)]", "def f(a):\n    return list(range(a))",
+                    "def f(a):\n    return len(set(a))", "def f(a):\n    return a in (1, 2)",
+                    "class A(ValueError):\n    pass\n\n\ndef f(a):\n    raise A()"):
+            self.assertEqual(Form('"""A file."""\n' + row).faults(), [], row)
 
     def test_what_is_not(self):
         for rule, row in (("L2", "import os"), ("L2", "from os import path"), ("L16", "from beaconcoasts.a import *"),
@@ -307,7 +420,17 @@ class Checker(unittest.TestCase):
                           ("L25", "def f(a):\n    a.sort()"), ("L27", "def f(a):\n    return 2 ** a"), ("L27", "x = '%'"),
                           ("L23", "def f(a):\n    for b in a:\n        a.append(b)"), ("L10", "x = 1" + " " * 120),
                           ("L10", "def f(a):\n" + "    a = 1\n" * 40), ("L14", "# \xe4"), ("L14", "def f(a):\n\treturn a"),
-                          ("L28", "class A:\n    def __init__(self):\n        return None")):
+                          ("L13", "def f():\n    return {1, 2, 3}"), ("L15", "X = [1]\ndef f(): return X"),
+                          ("L13", "def f(a):\n    return g(lambda b: b, lambda b: 1)"),
+                          ("L15", "X = [1]\ndef f(): X.append(1)"), ("L15", "X = [1]\ndef f():\n    X[0] = 1"),
+                          ("L15", "X = [1]\ndef f(): g(X)"),
+                          ("L18", "class A:\n    pass\ndef f(): return A"), ("L21", "def f() -> int: pass"),
+                          ("L18", "class A:\n    def b(self): pass\n    def b(self): pass"),
+                          ("L19", "def f():\n    try:\n        pass\n    except Exception:\n        pass"),
+                          ("L22", "def f(a):\n    return int(x=a)"), ("L22", "def f(a):\n    return [len, a]"),
+                          ("L23", "def f(a):\n    b = range(a)"), ("L23", "def f(a):\n    return a.items()"),
+                          ("L23", "def f(a):\n    return min(range(a), key=len)"), ("L24", "def f(a):\n    b = set(a)"),
+                          ("L27", "x = '\\r'"), ("L28", "class A:\n    def __init__(self):\n        return None")):
             self.assertIn(rule, [found for found, line in Form('"""A file."""\n' + row).faults()], row)
 
 

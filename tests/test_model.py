@@ -5,10 +5,11 @@ import re
 import unittest
 from fractions import Fraction
 
-from tests.calls import at, coast, joined, light, rhythm, run, seen
+from tests.calls import at, clear, coast, joined, light, rhythm, run, seen, tell, track, where
 
 PHASE = re.compile(r"[-WRGY](?:[1-9]|[1-9][0-9]|[1-5][0-9][0-9]|600)\Z")
 SIGNS = {1: "W", 2: "R", 3: "G", 4: "Y"}
+MOST_LONG_CALLS = 20
 
 
 def turned(x, y):
@@ -49,12 +50,23 @@ def fault_of(text):
     return None
 
 
+def field_is_wrong(x, y, u, v, told):
+    if max(abs(x), abs(y), abs(u), abs(v)) > 10000 or u < x or v < y or (u - x + 1) * (v - y + 1) > 1024:
+        return True
+    return len(told) % 2 != 0 or len(told) > 48 or any(colour > 4 for colour in told[1::2])
+
+
 class Model:
-    """The five calls, told again."""
+    """The nine calls, told again."""
 
     def __init__(self):
+        self.clear()
+
+    def clear(self):
         self.lights = []
         self.coasts = []
+        self.known = {}
+        return [0]
 
     def light(self, x, y, reach, text, sectors):
         if max(abs(x), abs(y)) > 10000 or not 1 <= reach <= 20000 or sectors_are_wrong(sectors):
@@ -76,9 +88,15 @@ class Model:
         if len(self.coasts) == 64:
             return [-5]
         self.coasts.append(((x, y), (u, v)))
+        self.known = {}
         return [len(self.coasts)]
 
     def colour(self, number, x, y):
+        if (number, x, y) not in self.known:
+            self.known[number, x, y] = self.reckoned(number, x, y)
+        return self.known[number, x, y]
+
+    def reckoned(self, number, x, y):
         from_x, from_y, reach, text, sectors = self.lights[number]
         if (x, y) == (from_x, from_y) or (x - from_x) ** 2 + (y - from_y) ** 2 > reach ** 2:
             return 0
@@ -114,6 +132,41 @@ class Model:
         text = self.lights[number][3].replace("W", SIGNS[self.colour(number, x, y)])
         return [len(text), *text.encode()]
 
+    def places(self, x, y, u, v, told):
+        pairs = list(zip(told[::2], told[1::2]))
+        return [(column, row) for row in range(y, v + 1) for column in range(x, u + 1)
+                if all(self.colour(number, column, row) == colour for number, colour in pairs)]
+
+    def where(self, x, y, u, v, told):
+        if field_is_wrong(x, y, u, v, told):
+            return [-1]
+        if any(number >= len(self.lights) for number in told[::2]):
+            return [-4]
+        places = self.places(x, y, u, v, told)
+        return [len(places), *places[0], *places[-1]] if places else [0]
+
+    def tell(self, x, y, u, v, told):
+        if self.where(x, y, u, v, told)[0] < 0:
+            return self.where(x, y, u, v, told)
+        places = self.places(x, y, u, v, told)
+        if not places or not self.lights:
+            return [-3]
+        colours = [[self.colour(number, *place) for place in places] for number in range(len(self.lights))]
+        greatest = [max(row.count(colour) for colour in row) for row in colours]
+        best = greatest.index(min(greatest))
+        return [best, *[colours[best].count(colour) for colour in range(5)]]
+
+    def track(self, x, y, u, v, n):
+        if n > 500 or max(abs(u), abs(v)) > 1000 or max(abs(x), abs(y), abs(x + n * u), abs(y + n * v)) > 10000:
+            return [-1]
+        before = {number: 0 for number in range(len(self.lights))}
+        told = []
+        for step in range(n + 1):
+            now = {number: self.colour(number, x + step * u, y + step * v) for number in before}
+            told += [(step, number, now[number]) for number in now if now[number] != before[number]]
+            before = now
+        return [len(told), *joined(told)]
+
 
 class Drawn:
     """Calls drawn by a seed, near one another, so that much of them touches; and what the model answers."""
@@ -144,45 +197,102 @@ class Drawn:
         count = self.draw.choice((1, 2, 3, 4, 7, 33))
         return " ".join(self.draw.choice(signs) + str(self.draw.randint(1, longest)) for number in range(count))
 
-    def calls(self):
-        """(name, arguments) of each call."""
+    def near(self):
+        """Corners of a field that lies about one of the places that are drawn."""
+        x, y = self.number(), self.number()
+        width, height = self.draw.choice(((0, 0), (3, 3), (9, 1), (1, 9), (6, 9), (9, 6), (17, 0), (0, 17)))
+        if self.draw.random() < 0.05:
+            width, height = self.draw.choice(((1024, 0), (0, 1024), (-1, 3), (3, -1), (32, 31)))
+        x, y = x - self.draw.randint(0, max(width, 0)), y - self.draw.randint(0, max(height, 0))
+        return x, y, x + width, y + height
+
+    def told(self, model, field):
+        """Mostly what is so at some place of the field, so that some are left."""
+        if self.draw.random() < 0.06:
+            return self.draw.choice(((0,), (0, 5), (20, 1), (0, 1) * 25, (24, 5), (0, 1, 0, 0)))
+        numbers = [self.draw.randrange(len(model.lights)) for number in range(self.draw.choice((0, 1, 1, 2, 3)))
+                   if model.lights]
+        place = (self.draw.choice(field[::2]), self.draw.choice(field[1::2]))
+        return joined((number, model.colour(number, *place)) for number in numbers)
+
+    def looked(self, model):
+        field = self.near()
+        return (*field, self.told(model, field))
+
+    def way(self):
+        """A way from one place about those that are drawn, often over several of them."""
+        step = self.draw.choice((0, 1, 1, 2, self.scale))
+        x, y = self.number(), self.number()
+        u, v = self.draw.randint(-3, 3) * step, self.draw.randint(-3, 3) * step
+        n = self.draw.choice((0, 1, 2, 5, 9, 20, 30, 501 if self.draw.random() < 0.1 else 40))
+        return x - n // 2 * u, y - n // 2 * v, u, v, n
+
+    def calls(self, model, count):
+        """(name, arguments) of each call; the model makes each as soon as it's given."""
+        names = ["light", "light", "coast", "seen", "seen", "at", "rhythm", "rhythm", "where", "track", "tell"]
+        short = names[:-3]
         place = lambda: (self.number(), self.number())
-        made = []
-        for number in range(self.draw.randint(5, 60)):
-            name = self.draw.choice(("light", "light", "coast", "seen", "seen", "at", "rhythm", "rhythm"))
-            reach = self.draw.randint(0, 4 * self.size) * self.scale
-            made.append((name, {"light": lambda: (*place(), reach, self.text(), self.sectors()),
-                                "coast": lambda: (*place(), *place()),
-                                "seen": place,
-                                "at": lambda: (self.draw.choice((0, 1, 7, 500, 999999, 1000000)), *place()),
-                                "rhythm": lambda: (self.draw.randint(0, 8), *place())}[name]()))
-        return made
+        reach = lambda: self.draw.randint(0, 4 * self.size) * self.scale
+        made = {"light": lambda: (*place(), reach(), self.text(), self.sectors()),
+                "coast": lambda: (*place(), *place()),
+                "seen": place,
+                "at": lambda: (self.draw.choice((0, 1, 7, 500, 999999, 1000000)), *place()),
+                "rhythm": lambda: (self.draw.randint(0, 8), *place()),
+                "where": lambda: self.looked(model),
+                "track": self.way,
+                "tell": lambda: self.looked(model),
+                "clear": lambda: ()}
+        left = MOST_LONG_CALLS
+        for number in range(count):
+            name = self.draw.choice(names if left > 0 else short) if self.draw.random() < 0.98 else "clear"
+            left -= name in names[-3:]
+            yield name, made[name]()
 
 
 class Compared(unittest.TestCase):
-    makers = {"light": light, "coast": coast, "seen": seen, "at": at, "rhythm": rhythm}
+    makers = {"light": light, "coast": coast, "seen": seen, "at": at, "rhythm": rhythm, "where": where, "track": track,
+              "tell": tell, "clear": clear}
 
-    def compare(self, drawn):
+    def compare(self, drawn, count):
         model = Model()
-        calls = drawn.calls()
-        expected = [getattr(model, name)(*given) for name, given in calls]
-        self.assertEqual(run(*[self.makers[name](*given) for name, given in calls]), expected)
-        return expected
+        calls = []
+        expected = []
+        for name, given in drawn.calls(model, count):
+            calls.append((name, given))
+            expected.append(getattr(model, name)(*given))
+        answered = run(*[self.makers[name](*given) for name, given in calls])
+        for call, told, answer in zip(calls, answered, expected):
+            self.assertEqual(told, answer, call)
+        self.assertEqual(len(answered), len(expected))
+        return [(name, answer) for (name, given), answer in zip(calls, expected)]
+
+    def compare_many(self, seeds, size, scale):
+        found = []
+        for seed in seeds:
+            drawn = Drawn(seed, size, scale)
+            found += self.compare(drawn, drawn.draw.randint(5, 60))
+        return found
+
+    def how_many(self, found, name, least):
+        return len([answer for asked, answer in found if asked == name and answer[0] >= least])
 
     def test_close_together(self):
-        seen_of_any = 0
-        for seed in range(600):
-            expected = self.compare(Drawn(seed, 4, 1))
-            seen_of_any += len([answer for answer in expected if len(answer) > 2])
-        self.assertGreater(seen_of_any, 1000)
+        found = self.compare_many(range(600), 4, 1)
+        # that what is drawn tries what it's for
+        leasts = {"seen": 2, "at": 1, "rhythm": 2, "where": 2, "track": 2, "tell": 1, "clear": 0}
+        for name, least in leasts.items():
+            self.assertGreater(self.how_many(found, name, least), 200, name)
 
     def test_far_apart(self):
-        for seed in range(300):
-            self.compare(Drawn(seed, 6, 1667))
+        self.compare_many(range(300), 6, 1667)
 
     def test_anywhere(self):
-        for seed in range(300):
-            self.compare(Drawn(seed, 10010, 1))
+        self.compare_many(range(300), 10010, 1)
+
+    def test_many_calls(self):
+        for seed in range(40):
+            self.compare(Drawn(seed, 5, 1), 140)
+            self.compare(Drawn(seed, 6, 1667), 140)
 
 
 if __name__ == "__main__":
